@@ -1,0 +1,1 @@
+"""Optimal designs: exact figures of an experiment's design."""
