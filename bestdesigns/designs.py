@@ -4,7 +4,6 @@ from bestdesigns.operations import OPERATIONS
 from bestdesigns.state import Design, NotCreated, Refusal
 
 CREATE = 0
-# All operations of the document are here, so that a call ahead of create is refused whichever it is.
 WITH_NUMBER = (0, 2, 3, 12, 14, 17, 18, 19, 20)
 WITH_LIST = (1, 4, 9, 21, 22)
 

@@ -15,10 +15,6 @@ class Inverse:
             total += factor * sum([entry * other for entry, other in zip(row, vector)])
         return total
 
-    def scaled_trace(self):
-        """The sum of the unit vectors' variances times the determinant, a whole number."""
-        return sum([row[place] for place, row in enumerate(self.entries)])
-
 
 def lowest_terms(numerator, denominator):
     """Numerator and denominator of the same fraction in lowest terms; the denominator handed in is above 0."""
@@ -60,6 +56,24 @@ def clear_below(rows, step, divisor):
         row = rows[below]
         # The pivot of the step before divides each of these without a rest (Bareiss).
         rows[below] = [(entry * pivot[step] - row[step] * above) // divisor for entry, above in zip(row, pivot)]
+
+
+def principal_minor(matrix, places):
+    """The determinant of the rows and columns at these places."""
+    return determinant_of([[matrix[row][column] for column in places] for row in places])
+
+
+def scaled_trace_of(matrix):
+    """The sum of the unit vectors' variances times the determinant, a whole number."""
+    places = list(range(len(matrix)))
+    return sum([principal_minor(matrix, places[:left_out] + places[left_out + 1:]) for left_out in places])
+
+
+def sign_of(number):
+    """1, 0 or -1 for a number above, equal to or below 0."""
+    if number == 0:
+        return 0
+    return 1 if number > 0 else -1
 
 
 def cofactors_of(matrix):

@@ -6,6 +6,11 @@ COLUMN_LIMIT = 4
 CANDIDATE_LIMIT = 10
 ENTRY_LIMIT = 10
 COUNT_LIMIT = 20
+SIZE_LIMIT = 20
+BOUND_SIZE_LIMIT = 100
+EXCHANGE_LIMIT = 20
+STEP_LIMIT = 3
+SEARCH_LIMIT = 500
 
 
 class Refusal(Exception):
@@ -50,8 +55,22 @@ class TooMany(Refusal):
         Refusal.__init__(self, -28)
 
 
+class SearchTooLarge(Refusal):
+    """There are too many lists of counts to look through."""
+
+    def __init__(self):
+        Refusal.__init__(self, -28)
+
+
 class NotRegular(Refusal):
     """The design's information matrix has no inverse."""
+
+    def __init__(self):
+        Refusal.__init__(self, -33)
+
+
+class NothingFound(Refusal):
+    """There is no such exchange, candidate or design."""
 
     def __init__(self):
         Refusal.__init__(self, -33)
@@ -64,6 +83,12 @@ class Design:
         self.column_count = 0
         self.candidates = []
         self.counts = []
+
+
+def check_number(number, least, greatest):
+    """Refuse a number outside its range."""
+    if not least <= number <= greatest:
+        raise OutOfRange()
 
 
 def check_vector(design, vector):
@@ -88,21 +113,39 @@ def check_candidate(design, index):
         raise NoSuchCandidate()
 
 
-def information_of(design):
-    """The information matrix of the design."""
+def information_with(design, counts):
+    """The information matrix with these counts, or other whole numbers in their place, below 0 too."""
     places = list(range(design.column_count))
     matrix = [[0 for column in places] for row in places]
-    for entries, count in zip(design.candidates, design.counts):
-        for row in places:
-            for column in places:
-                matrix[row][column] += count * entries[row] * entries[column]
+    for entries, count in zip(design.candidates, counts):
+        # Most lists of a search hold many counts of 0, and these add nothing.
+        if count != 0:
+            for row in places:
+                factor = count * entries[row]
+                for column in places:
+                    matrix[row][column] += factor * entries[column]
     return matrix
+
+
+def information_of(design):
+    """The information matrix of the design."""
+    return information_with(design, design.counts)
+
+
+def regular_determinant(matrix):
+    """The determinant of an information matrix; refused if it is 0."""
+    determinant = determinant_of(matrix)
+    if determinant == 0:
+        raise NotRegular()
+    return determinant
+
+
+def inverse_with(design, counts):
+    """The inverse of the information matrix with these counts; refused if there is none."""
+    matrix = information_with(design, counts)
+    return Inverse(matrix, regular_determinant(matrix))
 
 
 def inverse_of(design):
     """The inverse of the information matrix; refused if the design is not regular."""
-    matrix = information_of(design)
-    determinant = determinant_of(matrix)
-    if determinant == 0:
-        raise NotRegular()
-    return Inverse(matrix, determinant)
+    return inverse_with(design, design.counts)

@@ -1,85 +1,9 @@
 """information, determinant, trace, variance, candidate_variances, is_optimal."""
 
 import unittest
-from fractions import Fraction
-from itertools import product
 
-from calling import design, last, replies
-
-LINE = [[1, -1], [1, 0], [1, 1]]
-NOT_REGULAR = (
-    design(LINE, [0, 0, 0]),
-    design(LINE, [0, 20, 0]),
-    design([[1, 2], [-2, -4], [3, 6]], [1, 1, 1]),
-    design([[1, 1, 0, 0], [0, 0, 1, 1], [1, 1, 1, 1], [1, 1, -1, -1]], [2, 2, 2, 2]),
-    [("create", 1)],
-    [("create", 4)],
-    design([[0]], [20]),
-)
-
-
-def numbers(start, greatest, length):
-    """A list of numbers from 0 to the greatest; each start gives the same list every time."""
-    found = []
-    state = start * 7919 + 12345
-    for _ in range(length):
-        state = (state * 1103515245 + 12345) % 2147483648
-        found.append((state >> 12) % (greatest + 1))
-    return found
-
-
-def some_designs():
-    """Designs of 1 to 4 columns with few and many candidates, small and great entries and counts."""
-    for start in range(80):
-        columns = start % 4 + 1
-        reach = (1, 3, 10)[start % 3]
-        drawn = numbers(start, 2 * reach, 40)
-        rows = []
-        for place in range(0, 40 - columns, columns):
-            row = [entry - reach for entry in drawn[place:place + columns]]
-            if row not in rows and len(rows) < start % 10 + 1:
-                rows.append(row)
-        yield rows, numbers(start + 500, (2, 20)[start % 2], len(rows))
-
-
-def matrix_of(rows, counts):
-    """The information matrix, by the words of the document."""
-    places = range(len(rows[0]))
-    return [[sum(count * row[i] * row[j] for row, count in zip(rows, counts)) for j in places] for i in places]
-
-
-def expanded(matrix):
-    """The determinant by expansion along the first row."""
-    if not matrix:
-        return 1
-    return sum((-1) ** place * entry * expanded([row[:place] + row[place + 1:] for row in matrix[1:]])
-               for place, entry in enumerate(matrix[0]))
-
-
-def solved(matrix, vector):
-    """The solution z of M z = c, by elimination over fractions."""
-    rows = [[Fraction(entry) for entry in row] + [Fraction(right)] for row, right in zip(matrix, vector)]
-    for step in range(len(rows)):
-        chosen = next(place for place in range(step, len(rows)) if rows[place][step] != 0)
-        rows[step], rows[chosen] = rows[chosen], rows[step]
-        rows[step] = [entry / rows[step][step] for entry in rows[step]]
-        for place in range(len(rows)):
-            if place != step:
-                factor = rows[place][step]
-                rows[place] = [entry - factor * above for entry, above in zip(rows[place], rows[step])]
-    return [row[-1] for row in rows]
-
-
-def variance_of(matrix, vector):
-    return sum(z * c for z, c in zip(solved(matrix, vector), vector))
-
-
-def units(columns):
-    return [[int(place == other) for other in range(columns)] for place in range(columns)]
-
-
-def pair(fraction):
-    return [fraction.numerator, fraction.denominator]
+from helper import LINE, NOT_REGULAR, design, expanded, last, matrix_of, numbers, pair, replies, some_designs
+from helper import trace_of, units, variance_of
 
 
 class AgainstTheWords(unittest.TestCase):
@@ -101,8 +25,7 @@ class AgainstTheWords(unittest.TestCase):
             regular += 1
             variances = [variance_of(matrix, row) for row in rows]
             worst = max(variances) * sum(counts)
-            trace = sum(variance_of(matrix, unit) for unit in units(columns))
-            self.assertEqual(found[2], [0] + pair(trace))
+            self.assertEqual(found[2], [0] + pair(trace_of(matrix)))
             self.assertEqual(found[3], [0] + pair(variance_of(matrix, vector)))
             self.assertEqual(found[4], [len(rows)] + [number for value in variances for number in pair(value)])
             self.assertEqual(found[5], [int(worst <= columns), variances.index(max(variances))] + pair(worst))
@@ -151,19 +74,6 @@ class Determinant(unittest.TestCase):
                 ([1, 1, 1, 1], [1, -1, 1, -1], [1, 1, -1, -1], [1, -1, -1, 1], [-1, -1, -1, -1],
                  [-1, 1, -1, 1], [-1, -1, 1, 1], [-1, 1, 1, -1])]
         self.assertEqual(last(*design(rows, [20] * 8), ("determinant",)), [16000 ** 4])
-
-    def test_a_run_multiplies_by_one_and_its_variance(self):
-        for rows, counts in some_designs():
-            before = expanded(matrix_of(rows, counts))
-            if before == 0 or max(counts) == 20:
-                continue
-            variances = last(*design(rows, counts), ("candidate_variances",))
-            for place in range(len(rows)):
-                more = list(counts)
-                more[place] += 1
-                after = last(*design(rows, more), ("determinant",))[0]
-                factor = 1 + Fraction(variances[1 + 2 * place], variances[2 + 2 * place])
-                self.assertEqual(after, before * factor)
 
 
 class Trace(unittest.TestCase):
@@ -253,24 +163,6 @@ class IsOptimal(unittest.TestCase):
     def test_not_regular(self):
         for calls in NOT_REGULAR:
             self.assertEqual(last(*calls, ("is_optimal",)), [-33])
-
-    def test_worst_is_never_below_the_number_of_columns(self):
-        for rows, counts in some_designs():
-            found = last(*design(rows, counts), ("is_optimal",))
-            if found != [-33]:
-                self.assertGreaterEqual(found[2], len(rows[0]) * found[3])
-
-    def test_no_design_of_the_size_beats_one_that_passes(self):
-        passing = 0
-        for rows in (LINE, [[1], [2], [-2]], [[1, 1], [1, -1], [0, 1], [2, 1]]):
-            for counts in product(range(4), repeat=len(rows)):
-                found = last(*design(rows, counts), ("is_optimal",))
-                if found[0] == 1:
-                    passing += 1
-                    greatest = max(expanded(matrix_of(rows, others)) for others
-                                   in product(range(sum(counts) + 1), repeat=len(rows)) if sum(others) == sum(counts))
-                    self.assertEqual(expanded(matrix_of(rows, counts)), greatest)
-        self.assertGreater(passing, 3)
 
 
 class FiguresChangeNothing(unittest.TestCase):

@@ -7,16 +7,38 @@ import unittest
 
 from bestdesigns import designs
 from bestdesigns.designs import answers
-from calling import NAMES, design, flat, last, replies
+from helper import BIGGEST, LINE, NAMES, design, flat, last, replies
 
-BIGGEST = 4294967295
 WITH_NUMBER = ("remove_candidate", "get_candidate", "bound", "improve", "best", "best_by_trace", "take_best", "weights")
 WITH_LIST = ("add_candidate", "set_counts", "variance", "compare", "is_at_least_as_good")
-EXAMPLE = [
-    ("create", 2), ("add_candidate", [1, -1]), ("add_candidate", [1, 0]), ("add_candidate", [1, 1]),
-    ("set_counts", [1, 2, 1]), ("information",), ("determinant",), ("trace",), ("candidate_variances",),
-    ("is_optimal",), ("set_counts", [3, 2, 0]), ("add_candidate", [1, 1]),
-]
+SESSION = (
+    (("create", 2), [0]),
+    (("add_candidate", [1, -1]), [0]),
+    (("add_candidate", [1, 0]), [1]),
+    (("add_candidate", [1, 1]), [2]),
+    (("set_counts", [1, 2, 1]), [4]),
+    (("information",), [2, 4, 0, 0, 2]),
+    (("determinant",), [8]),
+    (("trace",), [0, 3, 4]),
+    (("candidate_variances",), [3, 3, 4, 1, 4, 3, 4]),
+    (("is_optimal",), [0, 0, 3, 1]),
+    (("bound", 4), [18]),
+    (("exchange",), [1, 0, 11]),
+    (("improve", 5), [1, 16]),
+    (("counts",), [3, 2, 0, 2]),
+    (("is_optimal",), [1, 0, 2, 1]),
+    (("bound", 5), [25]),
+    (("best", 3), [8, 2, 0, 1]),
+    (("best_by_trace", 3), [0, 3, 4, 2, 0, 1]),
+    (("weights", 1), [3, 5, 12, 1, 6, 5, 12]),
+    (("compare", [1, 2, 1]), [1, 1]),
+    (("is_at_least_as_good", [1, 2, 1]), [1]),
+    (("remove",), [0, 8]),
+    (("add",), [0, 16]),
+    (("exchange",), [-33]),
+    (("add_candidate", [1, 1]), [-17]),
+)
+EXAMPLE = [call for call, answer in SESSION]
 
 
 def some_call(name):
@@ -36,17 +58,19 @@ class Numbers(unittest.TestCase):
             4, 0, 0, 3, 1, 1, -17])
 
     def test_the_example_call_by_call(self):
-        self.assertEqual(replies(*EXAMPLE), [
-            [0], [0], [1], [2], [4], [2, 4, 0, 0, 2], [8], [0, 3, 4], [3, 3, 4, 1, 4, 3, 4], [0, 0, 3, 1], [5],
-            [-17]])
+        for call, answer, found in zip(EXAMPLE, [answer for call, answer in SESSION], replies(*EXAMPLE)):
+            self.assertEqual((call, found), (call, answer))
 
-    def test_the_other_designs_of_the_example(self):
-        rows = [[1, -1], [1, 0], [1, 1]]
-        self.assertEqual(last(*design(rows, [2, 1, 1]), ("determinant",)), [11])
-        self.assertEqual(last(*design(rows, [3, 2, 0]), ("determinant",)), [6])
-        self.assertEqual(last(*design(rows, [2, 0, 2]), ("determinant",)), [16])
-        self.assertEqual(last(*design(rows, [2, 0, 2]), ("is_optimal",)), [1, 0, 2, 1])
-        self.assertEqual(replies(*design(rows, [2, 0, 1]), ("determinant",), ("trace",))[-2:], [[8], [0, 3, 4]])
+    def test_the_second_half_of_the_example_number_by_number(self):
+        start = flat(EXAMPLE[:5])
+        told = answers(start + [12, 4, 13, 14, 5, 17, 3, 18, 3, 20, 1, 21, 3, 1, 2, 1, 22, 3, 1, 2, 1, 16, 15, 13, 23,
+                                19, 3, 5])
+        self.assertEqual(told[len(answers(start)):], [
+            1, 18, 3, 1, 0, 11, 2, 1, 16, 4, 8, 2, 0, 1, 6, 0, 3, 4, 2, 0, 1, 7, 3, 5, 12, 1, 6, 5, 12, 2, 1, 1, 1, 1,
+            2, 0, 8, 2, 0, 16, 1, -33, 3, 2, 3, 4, 1, 8, 4, 3, 2, 0, 1])
+
+    def test_an_answer_below_0_that_is_no_error_is_told_whole(self):
+        self.assertEqual(answers(flat(design(LINE, [1, 2, 1])) + [21, 3, 2, 0, 2])[-3:], [2, -1, -1])
 
     def test_one_call(self):
         self.assertEqual(answers([0, 4]), [1, 0])
@@ -61,8 +85,10 @@ class Numbers(unittest.TestCase):
     def test_empty_and_long_lists_do_not_shift_the_next_call(self):
         for row in ([], [7] * 40, [1] * 39):
             found = replies(("create", 2), ("add_candidate", row), ("counts",), ("variance", row), ("counts",),
-                            ("set_counts", row), ("counts",))
-            self.assertEqual(found, [[0], [-22], [0], [-22], [0], [-22] if row else [0], [0]])
+                            ("set_counts", row), ("counts",), ("is_at_least_as_good", row), ("counts",),
+                            ("compare", row), ("counts",))
+            self.assertEqual(found, [[0], [-22], [0], [-22], [0], [-22] if row else [0], [0], [-22] if row else [1],
+                                     [0], [-22] if row else [-33], [0]])
 
     def test_great_numbers_do_not_shift_the_next_call(self):
         found = replies(("create", BIGGEST), ("create", 1), ("get_candidate", BIGGEST), ("remove_candidate", BIGGEST),
@@ -70,6 +96,10 @@ class Numbers(unittest.TestCase):
                         ("add_candidate", [2147483647]), ("add_candidate", [-10]), ("set_counts", [BIGGEST]),
                         ("variance", [-2147483648]), ("counts",))
         self.assertEqual(found, [[-22], [0], [-2], [-2], [-22], [-22], [-22], [0], [-22], [-22], [1, 0]])
+        numbered = [(name, BIGGEST) for name in ("bound", "improve", "best", "best_by_trace", "take_best", "weights")]
+        listed = [("compare", [BIGGEST] * 40), ("is_at_least_as_good", [BIGGEST] * 40)]
+        found = replies(*design(LINE, [1, 2, 1]), *numbered, *listed, ("counts",))
+        self.assertEqual(found[5:], [[-22]] * 8 + [[3, 1, 2, 1]])
 
     def test_two_hundred_calls(self):
         rows = [[1, 0, 0, entry] for entry in range(4)] + [[0, 1, 0, 0], [0, 0, 1, 0], [0, 0, 0, 1]]
@@ -90,9 +120,10 @@ class NotCreated(unittest.TestCase):
             self.assertEqual(replies(some_call(name)), [[-11]])
 
     def test_good_arguments_do_not_help(self):
-        found = replies(("add_candidate", [1]), ("set_counts", []), ("variance", [1]), ("counts",), ("create", 1),
-                        ("counts",))
-        self.assertEqual(found, [[-11], [-11], [-11], [-11], [0], [0]])
+        calls = [("add_candidate", [1]), ("set_counts", []), ("variance", [1]), ("bound", 1), ("improve", 1),
+                 ("best", 1), ("best_by_trace", 1), ("take_best", 1), ("weights", 0), ("compare", []),
+                 ("is_at_least_as_good", [])]
+        self.assertEqual(replies(*calls, ("create", 1), ("counts",)), [[-11]] * 11 + [[0], [0]])
 
     def test_stays_so_until_create_succeeds(self):
         calls = [some_call(name) for name in NAMES[1:]]

@@ -77,6 +77,8 @@ class Language(unittest.TestCase):
                         self.assertLessEqual(len(node.generators[0].ifs), 1)
                     if isinstance(node, ast.ExceptHandler):
                         self.assertIsNotNone(node.type)
+                    if isinstance(node, ast.BinOp) and isinstance(node.op, ast.Pow):
+                        self.assertIsInstance(node.right, ast.Constant)
 
     def test_functions_and_classes(self):
         for path in FILES:

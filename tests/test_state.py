@@ -2,9 +2,8 @@
 
 import unittest
 
-from calling import last, replies
+from helper import BIGGEST, last, replies
 
-BIGGEST = 4294967295
 LOWEST = -2147483648
 HIGHEST = 2147483647
 LINE = [("create", 2), ("add_candidate", [1, -1]), ("add_candidate", [1, 0]), ("add_candidate", [1, 1])]
